@@ -2,7 +2,7 @@
 
 from riddledesk.field import Field
 from riddledesk.hall import Hall
-from riddledesk.riddle import BAD_VALUE, NO_SUCH, NOT_AS_IT_IS
+from riddledesk.riddle import BAD_VALUE, NO_SUCH
 from riddledesk.sheet import THERE_IS, THERE_IS_NONE, Sheet
 
 MOST_SOLVERS = 4
@@ -15,10 +15,16 @@ FIELD_CALL = 1
 HALL_CALL = 2
 GOOD_CALL = 3
 THIN_CALL = 4
+FILL_CALL = 5
 MARK_CALL = 6
+RUB_CALL = 7
+NEXT_CALL = 8
+SHEET_CALL = 9
+STANDING_CALL = 11
+STATE_CALL = 12
 
 # How many numbers each call wants that has no list.
-WANTED = {0: 1, 3: 1, 4: 1, 5: 2, 6: 4}
+WANTED = {0: 1, 3: 1, 4: 1, 5: 2, 6: 4, 7: 3, 8: 2, 9: 2, 10: 2, 11: 0, 12: 0}
 
 
 class Desk:
@@ -51,8 +57,16 @@ class Desk:
             return self.riddles[FIELD].deed(told)
         if call == HALL_CALL:
             return self.riddles[HALL].deed(told)
-        if call == MARK_CALL:
-            return self.mark(told[0], told[1], told[2], told[3])
+        if call == STANDING_CALL:
+            return self.standing()
+        if call == STATE_CALL:
+            return self.state()
+        if call in (GOOD_CALL, THIN_CALL, FILL_CALL):
+            return self.of_riddle(call, told)
+        return self.of_sheet(call, told)
+
+    def of_riddle(self, call, told):
+        """What a call answers that is told with a riddle alone."""
         if told[0] >= len(self.riddles):
             return [NO_SUCH]
         riddle = self.riddles[told[0]]
@@ -62,31 +76,59 @@ class Desk:
             return riddle.thin()
         return riddle.fill(told[1])
 
+    def of_sheet(self, call, told):
+        """What a call answers that is told with a solver and a riddle."""
+        if told[0] >= self.solvers or told[1] >= len(self.riddles):
+            return [NO_SUCH]
+        riddle = self.riddles[told[1]]
+        sheet = self.sheet_of(told[0], told[1])
+        if call == MARK_CALL:
+            return self.mark(riddle, sheet, told[2], told[3])
+        if call == RUB_CALL:
+            return sheet.rub(told[2])
+        if call == NEXT_CALL:
+            return sheet.next_sure(riddle.ways(), riddle.wanting())
+        if call == SHEET_CALL:
+            return sheet.shown()
+        return sheet.done(riddle.ways(), riddle.wanting())
+
     def forget_sheets(self, before):
         """Only sheets of riddles that are as they were before stay."""
         same = [riddle.makeup() == makeup for riddle, makeup in zip(self.riddles, before)]
         self.sheets = [sheet for sheet in self.sheets if same[sheet.riddle]]
 
-    def mark(self, solver, riddle, cell, sign):
-        """The mark is told of the solver's sheet of the riddle."""
-        if solver >= self.solvers or riddle >= len(self.riddles):
-            return [NO_SUCH]
-        if cell not in self.riddles[riddle].wanting() or sign not in (THERE_IS, THERE_IS_NONE):
-            return [BAD_VALUE]
-        sheet = self.sheet_of(solver, riddle)
-        if sheet is None:
-            sheet = Sheet(solver, riddle)
-            self.sheets.append(sheet)
-        if cell in sheet.marks:
-            return [NOT_AS_IT_IS]
-        return sheet.mark(self.riddles[riddle].ways(), cell, sign)
-
     def sheet_of(self, solver, riddle):
-        """The solver's sheet of the riddle; None if it hasn't begun."""
+        """The solver's sheet of the riddle; if it hasn't begun, one without marks that isn't kept yet."""
         for sheet in self.sheets:
             if sheet.solver == solver and sheet.riddle == riddle:
                 return sheet
-        return None
+        return Sheet(solver, riddle)
+
+    def mark(self, riddle, sheet, cell, sign):
+        """The mark is told of the sheet, which is kept from its first one on."""
+        if cell not in riddle.wanting() or sign not in (THERE_IS, THERE_IS_NONE):
+            return [BAD_VALUE]
+        if not sheet.has_begun():
+            self.sheets.append(sheet)
+        return sheet.mark(riddle.ways(), cell, sign)
+
+    def standing(self):
+        """How many solvers; each with their points, those with more first."""
+        points = [0] * self.solvers
+        for sheet in self.sheets:
+            points[sheet.solver] += sheet.points()
+        ranked = []
+        # By the points below 0, so that of as many the lesser solver comes first.
+        for lost, solver in sorted([(-points[solver], solver) for solver in range(self.solvers)]):
+            ranked = ranked + [solver, -lost]
+        return [self.solvers, len(ranked)] + ranked
+
+    def state(self):
+        """How many solvers; the sheets in the order in which they began."""
+        shown = []
+        for sheet in self.sheets:
+            shown = shown + [sheet.solver, sheet.riddle, len(sheet.marks)] + sheet.kinds()
+        return [self.solvers, len(shown)] + shown
 
 
 def split_calls(calls):

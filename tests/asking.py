@@ -31,6 +31,30 @@ def mark(solver, riddle, cell, sign):
     return [6, solver, riddle, cell, sign]
 
 
+def rub(solver, riddle, cell):
+    return [7, solver, riddle, cell]
+
+
+def next_sure(solver, riddle):
+    return [8, solver, riddle]
+
+
+def sheet(solver, riddle):
+    return [9, solver, riddle]
+
+
+def done(solver, riddle):
+    return [10, solver, riddle]
+
+
+def standing():
+    return [11]
+
+
+def state():
+    return [12]
+
+
 def split(told):
     """Each call's answer out of the one list of all."""
     parts = []

@@ -3,7 +3,8 @@
 import unittest
 
 import brute
-from asking import ask, begins, behind, field, fill, good, hall, last, mark, thin, with_pillars, with_trees
+from asking import (ask, begins, behind, done, field, fill, good, hall, last, mark, next_sure, sheet, standing, state,
+                    thin, with_pillars, with_trees)
 
 # Rows 1 and 3 have three trees each. If row 4 has no tent, the lower trees want 10 12 14, then the upper 0 2 4;
 # no row or column ahead of row 4 tells as much alone.
@@ -34,7 +35,8 @@ class GreatestField(unittest.TestCase):
         self.assertEqual(told, [[2, 1, 1]] * 19)
 
     def test_sixty_calls(self):
-        for call, answer in ((good(0), [0, 2, 1, 9]), (field(11), [1, 1, 4]), (mark(0, 0, 0, 2), [0, 1, 1])):
+        for call, answer in ((good(0), [0, 2, 1, 9]), (field(11), [1, 1, 4]), (mark(0, 0, 0, 2), [0, 1, 1]),
+                             (next_sure(0, 0), [0, 1, 1]), (done(0, 0), [0])):
             self.assertEqual(behind(FIELD, *[call] * 52), [answer] * 52)
 
 
@@ -77,7 +79,7 @@ class GreatestHall(unittest.TestCase):
     def test_sixty_calls(self):
         few = with_pillars(4, 4, {5: 9, 10: 9}) + [fill(1, 0)]
         for made in (few, FULL_HALL):
-            for call in (good(1), hall(8), hall(4), fill(1, 0), thin(1), mark(0, 1, 1, 2)):
+            for call in (good(1), hall(8), hall(4), fill(1, 0), thin(1), mark(0, 1, 1, 2), next_sure(0, 1), done(0, 1)):
                 told = behind(made, *[call] * (60 - len(made)))
                 self.assertEqual(told[1:], [told[-1]] * (60 - len(made) - 1))
 
@@ -99,6 +101,17 @@ class WholeLine(unittest.TestCase):
         self.assertEqual(told[0::2], [[2, 1, 1]] * 4)
         self.assertEqual(told[1::2], [told[1]] * 4)
         self.assertEqual(last(*line, good(0)), [0, 2, 1, 9])
+
+    def test_four_solvers_with_ten_marks_each(self):
+        made = [begins(4)] + FIELD
+        cells = [0, 1, 2, 3, 4, 6, 8, 10, 11, 12]
+        marks = [mark(solver, 0, cell, 1) for solver in (3, 2, 1, 0) for cell in cells]
+        told = behind(made, *marks, standing(), state(), sheet(2, 0), next_sure(0, 0), done(0, 0))
+        # The way is 0 2 4 10 12 14, so 1, 3, 6, 8 and 11 can't have tents: five are sure and five can't be.
+        self.assertEqual(told[40:], [
+            [4, 8, 0, -5, 1, -5, 2, -5, 3, -5],
+            [4, 24] + [n for solver in (3, 2, 1, 0) for n in (solver, 0, 5, 5, 0, 5)],
+            [5, 10, 0, 1, 2, 1, 4, 1, 10, 1, 12, 1, 3, 5, 0, 5], [1, 1, 2], [0]])
 
     def test_the_greatest_sizes_and_no_greater(self):
         self.assertEqual(ask(field(0, 5, 5), field(0, 6, 5), hall(0, 4, 4), hall(0, 4, 5)), [[25], [-1], [16], [-1]])

@@ -2,17 +2,21 @@
 
 import unittest
 
-from asking import begins, field, fill, good, hall, mark, thin, with_pillars, with_trees
+from asking import (begins, done, field, fill, good, hall, mark, next_sure, rub, sheet, standing, state, thin,
+                    with_pillars, with_trees)
 from riddledesk.desk import answers
 
 LINE = [begins(2)] + with_trees(2, 5, 0, 4) + with_pillars(3, 3, {4: 2}) + [
     fill(0, 1), good(0), mark(1, 0, 1, 1), thin(0), mark(1, 0, 1, 1), mark(0, 1, 0, 1), mark(0, 1, 0, 1), good(1),
-    field(), hall(9), field(12), hall(11), mark(2, 0, 0, 1)]
+    field(), hall(9), field(12), hall(11), mark(2, 0, 0, 1),
+    next_sure(0, 1), rub(1, 0, 1), sheet(0, 1), done(0, 1), standing(), state(), done(2, 0)]
 FLAT = [number for call in LINE for number in call]
 ANSWERED = [
     1, 0, 1, 10, 1, 1, 1, 2, 1, 9, 1, 1,
     4, 1, 2, 1, 9, 4, 0, 2, 1, 5, 3, 2, 1, 1, 4, 2, 2, 0, 2, 3, 2, 1, 1, 3, 1, 1, 1, 1, -4, 4, 0, 2, 4, 0,
-    1, -100, 1, -100, 15, 2, 2, 0, 4, 2, 1, 99, 5, 0, 99, 99, 99, 99, 0, 0, 9, 1, 2, 3, 3, 2, 4, 2, 0, 0, 1, -2]
+    1, -100, 1, -100, 15, 2, 2, 0, 4, 2, 1, 99, 5, 0, 99, 99, 99, 99, 0, 0, 9, 1, 2, 3, 3, 2, 4, 2, 0, 0, 1, -2,
+    3, 1, 1, 2, 1, 0, 8, 1, 2, 0, 1, 3, 0, 1, 0, 1, 0, 6, 2, 4, 1, 2, 0, 1,
+    14, 2, 12, 1, 0, 0, 1, 0, 0, 0, 1, 1, 0, 1, 0, 1, -2]
 
 
 class Interface(unittest.TestCase):
@@ -28,6 +32,8 @@ class Interface(unittest.TestCase):
         given = list(FLAT)
         self.assertEqual(answers(given), answers(given))
         answers([1, 3, 0, 5, 5])
+        answers([6, 0, 0, 0, 2])
+        self.assertEqual(answers([12]), [2, 1, 0])
         self.assertEqual(answers([1, 1, 12]), [8, 0, 0, 1, 99, 1, 99, 0, 0])
 
     def test_what_is_given_back_is_another_list_each_time(self):
